@@ -1,0 +1,1 @@
+"""Folio lays out whole books."""
