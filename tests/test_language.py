@@ -1,12 +1,26 @@
-"""The rules of the language that a look at the files can check: L1, L2, L10, L14 and L27."""
+"""The rules of the language that a look at the files can check: L1, L2, L8, L10, L14, L15, L25 and L27 in part."""
 
 import ast
+import builtins
 import pathlib
 import re
 import unittest
 
 PACKAGE = pathlib.Path(__file__).resolve().parent.parent / "folio"
 LIBRARY = ("__future__", "heapq", "math", "itertools", "collections")
+BUILTINS = """
+    len range enumerate zip min max sum abs sorted reversed int str bool bytes list tuple dict set frozenset isinstance
+    ord repr any all divmod pow getattr hasattr setattr iter next map super property staticmethod classmethod
+    Exception ValueError TypeError KeyError IndexError LookupError ZeroDivisionError ArithmeticError OverflowError
+    RuntimeError NotImplementedError AttributeError StopIteration NotImplemented
+""".split()
+METHODS = """
+    append clear copy count endswith extend find get index insert isalnum isalpha isdigit islower isspace isupper items
+    join keys ljust lower lstrip partition pop remove replace reverse rfind rjust rpartition rsplit rstrip setdefault
+    split splitlines startswith strip update upper values zfill bit_length title capitalize swapcase casefold center
+    expandtabs removeprefix removesuffix rindex isascii isdecimal isnumeric istitle isidentifier isprintable translate
+    add discard sort format
+""".split()
 
 
 def files():
@@ -52,6 +66,34 @@ class LanguageTest(unittest.TestCase):
                     else:
                         self.assertEqual(node.level, 0)
                         self.assertIn(node.module.split(".")[0], ("folio",) + LIBRARY)
+
+    def test_builtins(self):
+        for path in files():
+            for node in nodes(path, (ast.Name, ast.arg)):
+                name = node.id if isinstance(node, ast.Name) else node.arg
+                if hasattr(builtins, name):
+                    with self.subTest(path=path.name, line=node.lineno):
+                        self.assertIsInstance(node, ast.Name)
+                        self.assertIsInstance(node.ctx, ast.Load)
+                        self.assertIn(name, BUILTINS)
+
+    def test_methods(self):
+        own = {node.name for path in files() for node in nodes(path, ast.FunctionDef)}
+        for path in files():
+            for node in nodes(path, ast.Call):
+                if isinstance(node.func, ast.Attribute):
+                    with self.subTest(path=path.name, line=node.lineno):
+                        self.assertIn(node.func.attr, own | set(METHODS))
+
+    def test_names_of_imports_and_classes(self):
+        for path in files():
+            taken = {node.name for node in nodes(path, ast.ClassDef)}
+            taken |= {name.name for node in nodes(path, ast.ImportFrom) for name in node.names}
+            for node in nodes(path, (ast.Name, ast.arg)):
+                name = node.id if isinstance(node, ast.Name) else node.arg
+                if isinstance(node, ast.arg) or isinstance(node.ctx, ast.Store):
+                    with self.subTest(path=path.name, line=node.lineno):
+                        self.assertNotIn(name, taken)
 
     def test_strings(self):
         for path in files():

@@ -203,6 +203,15 @@ class LearningTest(unittest.TestCase):
     def test_an_exception_without_hyphens(self):
         self.assert_learned(["baccbbb", "a", "ccbcccca-cac", "ba-ccbb"], ["a1", "baccbbb"])
 
+    def test_an_exception_that_is_left_out(self):
+        # "aab-aba" becomes an exception; without a pattern that is left out it is not needed.
+        examples = [
+            "abbbab", "bbba-bbbabab", "aab-aab", "b", "ba-aba-bb-aa-aab", "bbab", "aab-aba", "aa-a-bb-a-abaa", "aaba",
+            "bbba-abab", "aabb", "aa-a-abb",
+        ]
+        self.assertNotEqual(places(patterns_by_listing(examples), "aababa"), [3])
+        self.assert_learned(examples, ["1a", "a1", "2ba", "bbb2", "ba-aba-bb-aa-aab"])
+
     def test_entries_are_left_out_in_order(self):
         # Both "1c" and "a1" are taken, and either could be left out.
         self.assert_learned(["ba-cab"], ["a1"])
