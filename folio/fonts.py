@@ -3,6 +3,13 @@
 from folio.errors import BadFont, BadStyle
 from folio.hyphens import check_entries
 
+# The numbers of fonts.
+TEXT_FONT = 0
+EMPHASIS_FONT = 1
+CODE_FONT = 2
+HEAD_FONT = 3
+NOTE_FONT = 4
+
 FIRST_FIGURE = 48
 LAST_FIGURE = 57
 HYPHEN = 45

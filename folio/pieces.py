@@ -1,10 +1,7 @@
 """Reading the pieces of a text (points 12 to 15)."""
 
+from folio.fonts import CODE_FONT, EMPHASIS_FONT, NOTE_FONT
 from folio.source import BLANKS
-
-EMPHASIS_FONT = 1
-CODE_FONT = 2
-NOTE_FONT = 4
 
 ESCAPABLE = "*\\~{}#->!|[]`"
 NAME_SIGNS = "abcdefghijklmnopqrstuvwxyzABCDEFGHIJKLMNOPQRSTUVWXYZ0123456789_.-"

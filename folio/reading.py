@@ -1,12 +1,11 @@
 """Reading source texts (points 8 to 19)."""
 
 from folio.errors import BadText
+from folio.fonts import HEAD_FONT, TEXT_FONT
 from folio.pieces import BODY, read_pieces
 from folio.source import BLANKS, Source
 from folio.tables import read_table
 
-TEXT_FONT = 0
-HEAD_FONT = 3
 DEEPEST_HEAD = 3
 GREATEST_HEIGHT = 10000
 

@@ -1,8 +1,8 @@
 """Reading tables (points 16 and 17)."""
 
+from folio.fonts import TEXT_FONT
 from folio.pieces import CELL, read_pieces
 
-TEXT_FONT = 0
 MOST_COLUMNS = 8
 MOST_ROWS = 32
 
