@@ -94,7 +94,7 @@ def numbers_of_blocks(blocks):
 
 def own_label(heads):
     """The label of its own of the heading before which there are so many headings."""
-    return f"#{heads}"
+    return "#" + str(heads)
 
 
 def own_labels(blocks):

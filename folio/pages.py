@@ -166,14 +166,15 @@ class LeastMoves:
 
     def add_from(self, start, row):
         """Adds the moves from the stops of a row."""
-        if not row:
+        stops = [(key, before) for key, before, _ in row if key <= self.tables.float_counts[start]]
+        if not stops:
             return
         left = self.tables.style.height - self.tables.used_by_content(start, self.end)
         if left >= 0:
-            for key, before, _ in row:
+            for key, before in stops:
                 self.add_fitting(start, key, before, left)
         elif self.tables.is_one_piece(start, self.end):
-            for key, before, _ in row:
+            for key, before in stops:
                 self.add_move(start, key, key, before, (1, 0, self.waiting[key]))
 
     def add_fitting(self, start, key, before, left):
