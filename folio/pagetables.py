@@ -78,15 +78,15 @@ class PageTables:
 
     def may_end(self, end):
         """Whether a page may end at a position."""
-        return 1 <= end <= self.count and self._may_end[end]
+        return self._may_end[end]
 
     def is_possible(self, start, end):
         """Whether a page is possible between two positions."""
         return self._may_end[end] and self._next_end[start] >= end - 1
 
     def ends_with_end(self, end):
-        """Whether a page that ends at a position must end there."""
-        return end > 0 and self.parts[end - 1][0] == "end"
+        """Whether a page that ends at a position, which is not 0, must end there."""
+        return self.parts[end - 1][0] == "end"
 
     def is_one_piece(self, start, end):
         """Whether there is no place to break a page in two pages with content."""

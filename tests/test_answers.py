@@ -40,6 +40,7 @@ class OutlineTest(unittest.TestCase):
 
     def test_spaces_at_the_ends(self):
         self.assert_titles(["# ~a~"], "a")
+        self.assert_titles(["# xax", "# *.a.*"], "xax", ".a.")
         self.assert_titles(["# \\/~ a \\/ b ~\\/~"], "a   b")
         self.assert_titles(["# {=x} a {!t} b {^c}"], "a  b")
         self.assert_titles(["# ", "## {=x}", "# ~"], "", "", "")
@@ -69,6 +70,13 @@ class TermsTest(unittest.TestCase):
         self.assert_terms(texts[:1], ("t", [(1, 1)]))
         self.assert_terms(texts[:3], ("t", [(1, 2)]))
         self.assert_terms(texts[2:], ("t", [(1, 2), (4, 4), (6, 6)]))
+        self.assert_terms(texts[4:], ("t", [(1, 1), (3, 3), (5, 5)]))
+
+    def test_neighboring_pages_behind_others(self):
+        texts = ["a{!t}", "[page]", "[page]", "b{!t}", "[page]", "c{!t}", "[page]", "d{!t}", "[page]", "[page]", "e{!t}"]
+        self.assert_terms(texts, ("t", [(1, 1), (3, 5), (7, 7)]))
+        texts = ["a{!t}", "[page]", "[page]", "b{!t}", "[page]", "c{!t}", "d{!t}", "[page]", "e{!t}"]
+        self.assert_terms(texts, ("t", [(1, 1), (3, 5)]))
 
     def test_several_places_on_a_page(self):
         self.assert_terms(["a{!t}{!t}b", "c{!t}{^{!t}}", "! 1 d{!t}"], ("t", [(1, 1)]))

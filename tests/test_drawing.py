@@ -166,6 +166,14 @@ class RepeatedLinesTest(DrawingTest):
         self.assertEqual(texts, [["T", "1", "h", "i", "a"], ["T", "1", "h", "i", "b"]])
         self.assertEqual([draw[2] for draw in book.page(2)[1] if draw[0] == "text"], [0, 0, 10, 20, 30])
 
+    def test_the_least_height_of_heads(self):
+        # Of the heads nothing is higher than 0 but the caption.
+        fonts = [Font(line=1, space=10, stretch=0, shrink=0, figure=10, other=10)]
+        book = laid_out("| |\n|-\n|a|\n|b|", height=2, gap=0, fonts=fonts)
+        self.assertEqual([costs[4:6] for costs in book.page_costs()], [(2, 0), (1, 1)])
+        texts = [draw for draw in book.page(2)[1] if draw[0] == "text"]
+        self.assertEqual(texts, [text(0, 0, "Table", 4), text(60, 0, "1", 4), text(95, 1, "b")])
+
     def test_a_page_that_begins_in_the_heads(self):
         book = laid_out("|h|\n|i|\n|-\n|a|\n|b|", height=20, gap=0)
         texts = [[chr(draw[4][0]) for draw in book.page(number)[1] if draw[0] == "text"] for number in (1, 2, 3)]

@@ -210,6 +210,7 @@ class MoveTest(unittest.TestCase):
     def test_the_notes(self):
         self.assert_used([item(notes=3), GAP], 17, note_gap=4)
         self.assert_used([item(notes=3), TIGHT, item(notes=2), GAP], 34, note_gap=4)
+        self.assert_used([item(notes=1), GAP], 15, note_gap=4)
         self.assert_used([item(), GAP], 10, note_gap=4)
 
     def test_the_floats(self):

@@ -122,6 +122,13 @@ class SignsTest(WritingTest):
         self.assert_para("a" + signs, run("a" + signs))
         self.assert_para("a*" + signs + "*", run("a"), run(signs, 1))
 
+    def test_all_other_characters(self):
+        others = "".join(chr(number) for number in range(33, 127) if chr(number) not in "%\\*~{}`|")
+        self.assert_para("a" + others, run("a" + others))
+        self.assert_para("`" + others + "`", run(others, 2))
+        self.assert_written(table(0, ((1, (run(others), run(others, 2))),)), "| " + others + "`" + others + "` |")
+        self.assert_para("a{^" + others + "|}", run("a"), note(0), notes=[(run(others + "|", 4),)])
+
     def test_signs_in_code(self):
         self.assert_para("`\\\\`", run("\\", 2))
         self.assert_para("`\\``", run("`", 2))
